@@ -1,0 +1,93 @@
+"""The interface: how calls and answers are laid out, what is kept and what is not."""
+
+import unittest
+
+from bookspans.spans import answers
+from helper import HIGHEST, answers_to, begin, drop, length, pages, put, start
+
+
+class LayoutTest(unittest.TestCase):
+    def test_each_call_as_it_stands_in_the_list(self):
+        calls = [1, 10, 2, 3, 3, 0, 4, 8, 4, 1, 5, 2, 6, 0, 1, 0, 6, 0]
+        told = [2, 0, 0, 2, 0, 10, 2, 0, 0, 2, 0, 4, 2, 0, 0, 2, 0, 0]
+        self.assertEqual(answers(calls), told)
+
+    def test_each_refusal_is_one_number_below_0(self):
+        calls = [1, 2147483648, 3, 0, 4, 1, 5, 0, 1, 0, 0, 0, 6, 0]
+        self.assertEqual(answers(calls), [1, -1, 1, -1, 1, -1, 1, -1, 1, -3])
+
+    def test_pages_without_starts_has_its_count_alone(self):
+        self.assertEqual(answers([3, 0, 2]), [1, -1, 2, 0, 0])
+
+    def test_starts_that_look_like_calls_are_starts(self):
+        self.assertEqual(answers([1, 9, 3, 4, 0, 1, 5, 6, 4, 3]), [2, 0, 0, 2, 0, 0, 2, 0, 6])
+
+    def test_the_call_behind_refused_pages_is_found(self):
+        self.assertEqual(answers([3, 3, 1, 1, 1, 2]), [1, -1, 2, 0, 0])
+
+    def test_a_list_of_whole_numbers_comes_back(self):
+        told = answers(begin(5) + put(0, 5, 0, 1, 0) + drop(0) + drop(0))
+        self.assertIs(type(told), list)
+        self.assertEqual({type(number) for number in told}, {int})
+
+    def test_400_calls(self):
+        told = answers(begin(1) + put(0, 1) * 399)
+        expected = [2, 0, 0]
+        for number in range(399):
+            expected += [2, 0, number]
+        self.assertEqual(told, expected)
+
+    def test_30000_numbers(self):
+        calls = begin(7) + pages(*[0] * 29900) + length() * 96
+        self.assertEqual(len(calls), 30000)
+        self.assertEqual(answers(calls), [2, 0, 0, 2, 0, 0] + [2, 0, 7] * 96)
+
+
+class NewDeskTest(unittest.TestCase):
+    def test_no_characters(self):
+        self.assertEqual(answers_to(length()), [(0, 0)])
+
+    def test_one_page_from_0(self):
+        self.assertEqual(answers_to(start(0), start(1)), [(0, 0), (-1,)])
+
+    def test_no_spans(self):
+        self.assertEqual(answers_to(drop(0), drop(1), drop(65535)), [(-3,)] * 3)
+
+    def test_calls_ahead_of_any_begin(self):
+        self.assertEqual(
+            answers_to(put(0, 1), pages(0, 1), pages(0, 0), start(1), length()),
+            [(-1,), (-1,), (0, 0), (0, 0), (0, 0)],
+        )
+
+    def test_nothing_is_kept_from_one_list_to_the_next(self):
+        filled = begin(10) + pages(0, 5) + put(0, 10) + put(1, 2)
+        asked = length() + start(0) + start(1) + drop(0)
+        first = answers(asked)
+        answers(filled)
+        self.assertEqual(answers(asked), first)
+        self.assertEqual(first, [2, 0, 0, 2, 0, 0, 1, -1, 1, -3])
+        self.assertEqual(answers(filled), answers(filled))
+
+
+class HandedInTest(unittest.TestCase):
+    def test_the_list_is_the_same_afterwards(self):
+        calls = begin(10) + pages(0, 3, 9) + pages(0, 11) + put(0, 4) + drop(0) + drop(HIGHEST)
+        before = list(calls)
+        answers(calls)
+        self.assertEqual(calls, before)
+
+    def test_the_list_is_not_changed_for_a_while_either(self):
+        class Watched(list):
+            def refuse(self, *given):
+                raise AssertionError("the list handed in was changed")
+
+            append = extend = insert = pop = remove = clear = reverse = sort = refuse
+            __setitem__ = __delitem__ = __iadd__ = __imul__ = refuse
+
+        calls = begin(10) + pages(0, 3, 9) + put(0, 4) + drop(0) + length()
+        self.assertEqual(answers(Watched(calls)), answers(calls))
+
+    def test_the_answer_is_another_list_each_time(self):
+        first = answers(length())
+        first.append(5)
+        self.assertEqual(answers(length()), [2, 0, 0])
