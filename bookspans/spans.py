@@ -7,9 +7,14 @@ LENGTH = 2
 PAGES = 3
 START = 4
 PUT = 5
+DROP = 6
+GET = 7
+EDIT = 8
+PLACE = 9
+HOLDS = 10
 
 # How many numbers stand behind each call's own; pages is not here, for it tells that itself.
-NUMBERS_BEHIND = {1: 1, 2: 0, 4: 1, 5: 5, 6: 1}
+NUMBERS_BEHIND = {1: 1, 2: 0, 4: 1, 5: 5, 6: 1, 7: 1, 8: 3, 9: 1, 10: 1, 11: 1}
 
 
 def call_end(calls, at):
@@ -29,8 +34,18 @@ def answer(desk, call, numbers):
         return desk.start(numbers[0])
     if call == PUT:
         return desk.put(Span(numbers[0], numbers[1], numbers[2], numbers[3], numbers[4]))
-    # Only drop, 6, is left: call_end knows no other number.
-    return desk.drop(numbers[0])
+    if call == DROP:
+        return desk.drop(numbers[0])
+    if call == GET:
+        return desk.get(numbers[0])
+    if call == EDIT:
+        return desk.edit(numbers[0], numbers[1], numbers[2])
+    if call == PLACE:
+        return desk.place(numbers[0])
+    if call == HOLDS:
+        return desk.holds(numbers[0])
+    # Only on, 11, is left: call_end knows no other number.
+    return desk.on(numbers[0])
 
 
 def answers(calls):

@@ -31,6 +31,26 @@ def drop(number):
     return [6, number]
 
 
+def get(number):
+    return [7, number]
+
+
+def edit(at, cut, new):
+    return [8, at, cut, new]
+
+
+def place(number):
+    return [9, number]
+
+
+def holds(spot):
+    return [10, spot]
+
+
+def on(page):
+    return [11, page]
+
+
 def answers_to(*calls):
     """One tuple a call: what answers() tells of it, without how many numbers it is."""
     told = answers([number for call in calls for number in call])

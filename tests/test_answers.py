@@ -3,7 +3,16 @@
 import unittest
 
 from bookspans.spans import answers
-from helper import HIGHEST, answers_to, begin, drop, length, pages, put, start
+from helper import (
+    HIGHEST, LONGEST, answers_to, begin, drop, edit, get, holds, length, on, pages, place, put, start,
+)
+
+EACH_CALL = [
+    begin(10), length(), pages(0, 3, 9), pages(0, 11), start(1), start(3), put(0, 4), put(2, 6, 1, 0, 5), put(9, 9),
+    get(0), get(2), place(1), place(2), holds(3), holds(10), on(0), on(3), edit(2, 4, 1), edit(7, 1, 0),
+    edit(0, 0, LONGEST), drop(0), drop(HIGHEST),
+]
+EACH_CALL_IN_A_LIST = [number for call in EACH_CALL for number in call]
 
 
 class LayoutTest(unittest.TestCase):
@@ -15,6 +24,21 @@ class LayoutTest(unittest.TestCase):
     def test_each_refusal_is_one_number_below_0(self):
         calls = [1, 2147483648, 3, 0, 4, 1, 5, 0, 1, 0, 0, 0, 6, 0]
         self.assertEqual(answers(calls), [1, -1, 1, -1, 1, -1, 1, -1, 1, -3])
+        calls = [7, 0, 8, 0, 1, 0, 8, 0, 0, 2147483648, 9, 0, 10, 0, 11, 1]
+        self.assertEqual(answers(calls), [1, -3, 1, -1, 1, -2, 1, -3, 1, -1, 1, -1])
+
+    def test_get_edit_place_holds_and_on_as_they_stand_in_the_list(self):
+        calls = [1, 20, 3, 2, 0, 8, 5, 4, 9, 1, 0, 6, 5, 2, 9, 0, 0, 0, 7, 0, 9, 1, 10, 5, 11, 1, 8, 4, 6, 3, 7, 1]
+        told = [2, 0, 0, 2, 0, 0, 2, 0, 0, 2, 0, 1]
+        told += [6, 0, 4, 9, 1, 0, 6, 6, 0, 0, 1, 0, 0, 0, 3, 0, 1, 0, 3, 0, 1, 0, 2, 0, 0, 6, 0, 2, 4, 0, 0, 0]
+        self.assertEqual(answers(calls), told)
+
+    def test_spans_are_told_without_how_many(self):
+        calls = begin(9) + put(0, 2) * 3 + [10, 0, 11, 0, 8, 0, 2, 0]
+        self.assertEqual(answers(calls), [2, 0, 0, 2, 0, 0, 2, 0, 1, 2, 0, 2] + [4, 0, 0, 1, 2] * 3)
+
+    def test_no_span_is_0_alone(self):
+        self.assertEqual(answers([1, 9, 10, 0, 11, 0, 8, 0, 0, 0]), [2, 0, 0, 1, 0, 1, 0, 1, 0])
 
     def test_pages_without_starts_has_its_count_alone(self):
         self.assertEqual(answers([3, 0, 2]), [1, -1, 2, 0, 0])
@@ -26,7 +50,7 @@ class LayoutTest(unittest.TestCase):
         self.assertEqual(answers([3, 3, 1, 1, 1, 2]), [1, -1, 2, 0, 0])
 
     def test_a_list_of_whole_numbers_comes_back(self):
-        told = answers(begin(5) + put(0, 5, 0, 1, 0) + drop(0) + drop(0))
+        told = answers(EACH_CALL_IN_A_LIST)
         self.assertIs(type(told), list)
         self.assertEqual({type(number) for number in told}, {int})
 
@@ -42,6 +66,12 @@ class LayoutTest(unittest.TestCase):
         self.assertEqual(len(calls), 30000)
         self.assertEqual(answers(calls), [2, 0, 0, 2, 0, 0] + [2, 0, 7] * 96)
 
+    def test_many_edits_of_many_pages(self):
+        row = list(range(28404))
+        calls = begin(30000) + pages(*row) + edit(5, 1, 1) * 397 + start(5)
+        self.assertEqual(len(calls), 29998)
+        self.assertEqual(answers(calls)[-3:], [2, 0, 6])
+
 
 class NewDeskTest(unittest.TestCase):
     def test_no_characters(self):
@@ -52,6 +82,7 @@ class NewDeskTest(unittest.TestCase):
 
     def test_no_spans(self):
         self.assertEqual(answers_to(drop(0), drop(1), drop(65535)), [(-3,)] * 3)
+        self.assertEqual(answers_to(get(0), place(0), on(0)), [(-3,), (-3,), (0,)])
 
     def test_calls_ahead_of_any_begin(self):
         self.assertEqual(
@@ -60,21 +91,25 @@ class NewDeskTest(unittest.TestCase):
         )
 
     def test_nothing_is_kept_from_one_list_to_the_next(self):
-        filled = begin(10) + pages(0, 5) + put(0, 10) + put(1, 2)
-        asked = length() + start(0) + start(1) + drop(0)
+        filled = begin(10) + pages(0, 5) + put(0, 10) + put(1, 2) + edit(0, 2, 3)
+        asked = length() + start(0) + start(1) + drop(0) + get(0) + place(0) + holds(0) + on(0) + on(1)
         first = answers(asked)
         answers(filled)
         self.assertEqual(answers(asked), first)
-        self.assertEqual(first, [2, 0, 0, 2, 0, 0, 1, -1, 1, -3])
+        self.assertEqual(first, [2, 0, 0, 2, 0, 0, 1, -1, 1, -3, 1, -3, 1, -3, 1, -1, 1, 0, 1, -1])
         self.assertEqual(answers(filled), answers(filled))
 
 
 class HandedInTest(unittest.TestCase):
     def test_the_list_is_the_same_afterwards(self):
-        calls = begin(10) + pages(0, 3, 9) + pages(0, 11) + put(0, 4) + drop(0) + drop(HIGHEST)
-        before = list(calls)
+        calls = list(EACH_CALL_IN_A_LIST)
         answers(calls)
-        self.assertEqual(calls, before)
+        self.assertEqual(calls, EACH_CALL_IN_A_LIST)
+        for call in EACH_CALL:
+            with self.subTest(call=call):
+                handed_in = list(call)
+                answers(handed_in)
+                self.assertEqual(handed_in, call)
 
     def test_the_list_is_not_changed_for_a_while_either(self):
         class Watched(list):
@@ -84,8 +119,7 @@ class HandedInTest(unittest.TestCase):
             append = extend = insert = pop = remove = clear = reverse = sort = refuse
             __setitem__ = __delitem__ = __iadd__ = __imul__ = refuse
 
-        calls = begin(10) + pages(0, 3, 9) + put(0, 4) + drop(0) + length()
-        self.assertEqual(answers(Watched(calls)), answers(calls))
+        self.assertEqual(answers(Watched(EACH_CALL_IN_A_LIST)), answers(EACH_CALL_IN_A_LIST))
 
     def test_the_answer_is_another_list_each_time(self):
         first = answers(length())

@@ -19,6 +19,11 @@ ALLOWED_BUILTINS = set("""
     ArithmeticError OverflowError RuntimeError NotImplementedError AttributeError StopIteration
 """.split())
 ALLOWED_DUNDERS = {"__init__", "__eq__", "__repr__", "__str__", "__len__"}
+METHODS_OF_PYTHONS_OWN = set("""
+    append clear copy count endswith extend find get index insert isalnum isalpha isdigit islower isspace isupper items
+    join keys ljust lower lstrip partition pop remove replace reverse rfind rjust rpartition rsplit rstrip setdefault
+    split splitlines startswith strip update upper values zfill bit_length
+""".split())
 WORDS_NOWHERE = re.compile(
     r"\b(type|typing|typing_extensions|enum|Enum|IntEnum|StrEnum|Flag|IntFlag|Generic|Protocol|ABC|ABCMeta|namedtuple"
     r"|NamedTuple|TypedDict|TYPE_CHECKING|abstractmethod)\b|dataclass|overload|contextmanager"
@@ -35,6 +40,16 @@ def names_bound(tree):
             yield node.id
         elif isinstance(node, ast.Attribute) and isinstance(node.ctx, ast.Store):
             yield node.attr
+
+
+def methods_of(trees):
+    classes = [node for tree in trees for node in tree.body if isinstance(node, ast.ClassDef)]
+    return {node.name for one in classes for node in one.body if isinstance(node, ast.FunctionDef)}
+
+
+def values_of(trees):
+    found = [node for tree in trees for node in ast.walk(tree) if isinstance(node, ast.Attribute)]
+    return {node.attr for node in found if isinstance(node.ctx, ast.Store)}
 
 
 class LanguageTest(unittest.TestCase):
@@ -92,3 +107,26 @@ class LanguageTest(unittest.TestCase):
             for node in ast.walk(tree):
                 if isinstance(node, ast.Name) and node.id in own:
                     self.assertIn(node.id, ALLOWED_BUILTINS)
+
+    def test_methods_and_values(self):
+        trees = [tree for text, tree in self.each_file()]
+        methods = methods_of(trees)
+        values = values_of(trees)
+        self.assertEqual(methods & values, set())
+        taken = {name for own in (str, int, list, dict, set, bytes) for name in dir(own)} - ALLOWED_DUNDERS
+        self.assertEqual(values & taken, set())
+        self.assertEqual((methods - METHODS_OF_PYTHONS_OWN - {"add", "discard"}) & taken, set())
+        for tree in trees:
+            for node in ast.walk(tree):
+                if isinstance(node, ast.Attribute):
+                    self.assertIn(node.attr, methods | values | METHODS_OF_PYTHONS_OWN)
+
+    def test_comprehensions_and_names_of_a_files_top(self):
+        for text, tree in self.each_file():
+            for node in ast.walk(tree):
+                if isinstance(node, ast.ListComp):
+                    self.assertEqual(len(node.generators), 1)
+                    self.assertLessEqual(len(node.generators[0].ifs), 1)
+            top = [node.name for node in tree.body if isinstance(node, (ast.FunctionDef, ast.ClassDef))]
+            top += [node.targets[0].id for node in tree.body if isinstance(node, ast.Assign)]
+            self.assertEqual(len(top), len(set(top)))

@@ -2,8 +2,8 @@
 
 import unittest
 
-from bookspans.desk import Desk, Span
-from helper import HIGHEST, LONGEST, answers_to, begin, drop, full_desk, last_answer, pages, put
+from bookspans.desk import Span
+from helper import HIGHEST, LONGEST, answers_to, begin, drop, full_desk, get, last_answer, pages, put
 
 MOST_NOTE = 16777215
 
@@ -76,13 +76,8 @@ class SpanTest(unittest.TestCase):
         self.assert_refused(0, 1, 0, 1, 1)
 
     def test_the_span_is_kept_as_it_was_put(self):
-        # No call tells yet what a span is, so the desk is looked into.
-        desk = Desk()
-        desk.begin(10)
-        desk.put(Span(2, 9, 1, 0, 77))
-        desk.put(Span(3, 4, 0, 1, 0))
-        kept = [(s.source, s.to, s.kind, s.main, s.note) for s in (desk.spans[0], desk.spans[1])]
-        self.assertEqual(kept, [(2, 9, 1, 0, 77), (3, 4, 0, 1, 0)])
+        told = answers_to(begin(10), put(2, 9, 1, 0, 77), put(3, 4, 0, 1, 0), get(0), get(1))
+        self.assertEqual(told[3:], [(0, 2, 9, 1, 0, 77), (0, 3, 4, 0, 1, 0)])
 
 
 class NumberTest(unittest.TestCase):
